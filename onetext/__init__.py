@@ -1,0 +1,1 @@
+"""Edits of many hands that come to one text."""
